@@ -288,3 +288,35 @@ func TestUnset(t *testing.T) {
 		refuses(t, d, api.ErrNone, func() error { return d.Unset(0, name) })
 	}
 }
+
+// A clone is as the document, with its numbers and the next one; no change of one of them shows in the other.
+func TestClone(t *testing.T) {
+	d := open(t, `<a b="1" c="2"><d><e/></d><f/></a>`)
+	if n, err := d.Add(1, 0, "x"); n != 4 || err != nil || d.Remove(3) != nil {
+		t.Fatal(n, err)
+	}
+	changes := []func(d *Doc) error{
+		func(d *Doc) error { return d.Set(0, "b", "3") },
+		func(d *Doc) error { return d.Set(0, "k", "4") },
+		func(d *Doc) error { return d.Unset(0, "b") },
+		func(d *Doc) error { return d.Move(2, 1, 0) },
+		func(d *Doc) error { return d.Remove(1) },
+		func(d *Doc) error { _, err := d.Add(1, 1, "y"); return err },
+	}
+	for i, change := range changes {
+		for _, swap := range []bool{false, true} {
+			a := d.Clone()
+			b := a.Clone()
+			if swap {
+				a, b = b, a
+			}
+			was := all(d)
+			if all(a) != was || all(b) != was {
+				t.Fatal(i, all(a), all(b), "want", was)
+			}
+			if err := change(a); err != nil || all(a) == was || all(b) != was || all(d) != was {
+				t.Error(i, err, all(a), all(b), "was", was)
+			}
+		}
+	}
+}

@@ -7,7 +7,8 @@ import (
 	"leadlight/scene"
 )
 
-func check(l []scene.Piece) error {
+// Check pieces: what Paint and Row refuse of them, also for one who paints no row.
+func Check(l []scene.Piece) error {
 	for i, s := range l {
 		if err := checkPiece(s); err != nil {
 			return &api.Fault{At: i, Err: withoutPlace(err)}

@@ -16,6 +16,9 @@ func checkFault(t *testing.T, l []scene.Piece, at int, want error) {
 	if p.W != 0 || p.H != 0 || len(p.Cells) > 0 || !isFault(err, at, want) {
 		t.Errorf("Paint: %v %#v, want %v at %d", p, err, want, at)
 	}
+	if err := Check(l); !isFault(err, at, want) {
+		t.Errorf("Check: %#v, want %v at %d", err, want, at)
+	}
 	for _, y := range []int{0, 1, api.MaxSide - 1} {
 		if row, err := Row(l, 3, y); len(row) > 0 || !isFault(err, at, want) {
 			t.Errorf("Row %d: %v %#v, want %v at %d", y, row, err, want, at)
